@@ -1,0 +1,1 @@
+"""Rotward: files over disks that rot."""
