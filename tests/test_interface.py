@@ -24,6 +24,27 @@ CLASSES = {
         "RotError", "Refused", "InvalidArgument", "PowerOff", "NotFormatted", "AlreadyFormatted",
         "FilesOpen", "FilesClosed", "FilesLost", "DisksFull", "DamagedData",
     ],
+    "rotward.disks": ["Disks"],
+    "rotward.trees": ["Tree"],
+    "rotward.states": ["State", "Plan"],
+}
+METHODS = {
+    ("rotward.disks", "Disks"): {
+        "__init__": ["disks", "sectors", "carrying", "depth"],
+        "sizes": [], "counts": [], "is_on": [], "losses": [], "is_there": ["disk"],
+        "cell": ["disk", "sector"], "pending": ["disk"], "ask": ["disk", "sector"],
+        "write": ["disk", "sector", "data"], "sync": [], "rot": ["disk", "sector", "data"],
+        "bad": ["disk", "sector"], "away": ["disk"], "blank": ["disk"],
+        "fail_after": ["operations"], "power": ["kept"],
+    },
+    ("rotward.trees", "Tree"): {
+        "__init__": [], "copy": [], "problem": ["change"], "made": ["change"],
+        "made_all": ["changes"],
+    },
+    ("rotward.states", "State"): {
+        "__init__": ["stripes", "block"], "copy": [], "used": [], "data": [], "after": ["record"],
+    },
+    ("rotward.states", "Plan"): {"__init__": ["state", "changes"], "writes": ["found"]},
 }
 
 
@@ -44,6 +65,25 @@ class TestInterface(unittest.TestCase):
                 self.assertTrue(isclass(made), name)
                 self.assertEqual(made.__module__, module)
                 self.assertEqual(made.__name__, name)
+
+    def test_methods_stand_in_their_class(self):
+        for (module, name), methods in METHODS.items():
+            made = getattr(import_module(module), name)
+            for method, arguments in methods.items():
+                self.assertIn(method, vars(made), name)
+                self.assertEqual(list(signature(vars(made)[method]).parameters),
+                                 ["self"] + arguments, (name, method))
+
+    def test_attributes_are_set_when_objects_are_created(self):
+        disks = import_module("rotward.disks").Disks(4, 48, 2, 1)
+        tree = import_module("rotward.trees").Tree()
+        state = import_module("rotward.states").State(9, 64)
+        plan = import_module("rotward.states").Plan(state, [])
+        for made, names in [(disks, ["formatted", "in_use", "scrub_place"]),
+                            (tree, ["snapshots", "things"]), (state, ["snapshots", "things"]),
+                            (plan, ["after", "reads", "records"])]:
+            for name in names:
+                self.assertIn(name, vars(made))
 
     def test_arguments_of_refused(self):
         refused = import_module("rotward.errors").Refused

@@ -1,6 +1,7 @@
 """Rules of the language that a test can see: files, sizes, characters and imports."""
 
 import ast
+import builtins
 import unittest
 from pathlib import Path
 
@@ -41,6 +42,35 @@ class TestLanguage(unittest.TestCase):
                     self.assertEqual(node.level, 0, file)
                     first = node.module.split(".")[0]
                     self.assertIn(first, LIBRARY | {"rotward"}, file)
+
+    def test_no_name_is_that_of_a_builtin(self):
+        for file in FILES:
+            for node in nodes(file):
+                names = [getattr(node, "arg", None)]
+                if isinstance(node, (ast.FunctionDef, ast.ClassDef)):
+                    names.append(node.name)
+                if isinstance(node, ast.Name) and isinstance(node.ctx, ast.Store):
+                    names.append(node.id)
+                for name in names:
+                    if name is not None and name != "__init__":
+                        self.assertFalse(hasattr(builtins, name), (file, name))
+
+    def test_no_modules_import_from_each_other(self):
+        known = {}
+        for file in FILES:
+            imports = [node for node in nodes(file) if isinstance(node, ast.ImportFrom)]
+            known["rotward." + file.stem] = {node.module for node in imports} - LIBRARY
+        while known:
+            ready = [name for name in known if not known[name]]
+            self.assertTrue(ready, known)
+            known = {name: known[name] - set(ready) for name in known if name not in ready}
+
+    def test_functions_have_no_decorators_and_texts_no_percent(self):
+        for file in FILES:
+            for node in nodes(file):
+                self.assertFalse(getattr(node, "decorator_list", []), file)
+                if isinstance(node, ast.Constant) and isinstance(node.value, str):
+                    self.assertNotIn("%", node.value, file)
 
     def test_no_refused_part_of_the_language(self):
         for file in FILES:
