@@ -18,6 +18,23 @@ FUNCTIONS = {
         "read_word": ["cells", "k", "s"],
         "vote": ["cells", "s"],
     },
+    "rotward.codes": {
+        "write_number": ["number"],
+        "write_path": ["path"],
+        "write_record": ["record"],
+        "write_group": ["records"],
+        "write_image": ["commits", "state"],
+    },
+    "rotward.log": {
+        "area_size": ["sectors"],
+        "area_start": ["sectors", "area"],
+        "region_start": ["sectors"],
+        "stripe_count": ["sectors"],
+        "log_block": ["data"],
+        "read_block": ["sectors", "start"],
+        "tail": ["commits", "area", "image", "counting"],
+        "read_tail": ["sector"],
+    },
 }
 CLASSES = {
     "rotward.errors": [
@@ -27,6 +44,9 @@ CLASSES = {
     "rotward.disks": ["Disks"],
     "rotward.trees": ["Tree"],
     "rotward.states": ["State", "Plan"],
+    "rotward.codes": ["Reader"],
+    "rotward.log": ["Log"],
+    "rotward.files": ["Files"],
 }
 METHODS = {
     ("rotward.disks", "Disks"): {
@@ -45,6 +65,19 @@ METHODS = {
         "__init__": ["stripes", "block"], "copy": [], "used": [], "data": [], "after": ["record"],
     },
     ("rotward.states", "Plan"): {"__init__": ["state", "changes"], "writes": ["found"]},
+    ("rotward.codes", "Reader"): {
+        "__init__": ["data"], "read_number": [], "read_path": [], "read_record": [], "read_group": [],
+        "read_image": ["stripes", "block"], "end": [],
+    },
+    ("rotward.log", "Log"): {
+        "__init__": ["commits", "area", "image", "sectors"], "tail": [],
+        "grown": ["state", "records", "size"], "state": ["stripes", "block"],
+    },
+    ("rotward.files", "Files"): {
+        "__init__": ["disks", "new"], "change": ["changes"],
+        "read": ["path", "start", "end", "snapshot"], "tree": ["snapshot"], "snapshots": [],
+        "scrub": ["steps"], "status": [],
+    },
 }
 
 
@@ -79,11 +112,19 @@ class TestInterface(unittest.TestCase):
         tree = import_module("rotward.trees").Tree()
         state = import_module("rotward.states").State(9, 64)
         plan = import_module("rotward.states").Plan(state, [])
+        reader = import_module("rotward.codes").Reader([])
+        log = import_module("rotward.log").Log(0, 0, 1, [[0] * 32])
         for made, names in [(disks, ["formatted", "in_use", "scrub_place"]),
                             (tree, ["snapshots", "things"]), (state, ["snapshots", "things"]),
-                            (plan, ["after", "reads", "records"])]:
+                            (plan, ["after", "reads", "records"]), (reader, ["at"]),
+                            (log, ["area", "commits", "image", "sectors"])]:
             for name in names:
                 self.assertIn(name, vars(made))
+
+    def test_the_snapshot_may_be_left_out(self):
+        files = import_module("rotward.files").Files
+        for method in (files.read, files.tree):
+            self.assertIsNone(signature(method).parameters["snapshot"].default)
 
     def test_arguments_of_refused(self):
         refused = import_module("rotward.errors").Refused

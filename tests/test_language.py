@@ -8,6 +8,8 @@ from pathlib import Path
 ROOT = Path(__file__).resolve().parent.parent
 FILES = sorted((ROOT / "rotward").glob("*.py"))
 LIBRARY = {"heapq", "math", "itertools", "collections"}
+BUILTINS = set("""len range enumerate zip min max sum abs sorted reversed int str bool list tuple dict set
+    isinstance ord repr any all divmod ValueError""".split())
 REFUSED = (ast.Global, ast.AsyncFunctionDef, ast.Div, ast.Import)
 
 
@@ -52,8 +54,15 @@ class TestLanguage(unittest.TestCase):
                 if isinstance(node, ast.Name) and isinstance(node.ctx, ast.Store):
                     names.append(node.id)
                 for name in names:
-                    if name is not None and name != "__init__":
+                    if name not in (None, "_", "__init__"):
                         self.assertFalse(hasattr(builtins, name), (file, name))
+
+    def test_few_builtins_are_used(self):
+        for file in FILES:
+            for node in nodes(file):
+                # Doctests of the same run leave a builtin `_` behind.
+                if isinstance(node, ast.Name) and hasattr(builtins, node.id) and node.id != "_":
+                    self.assertIn(node.id, BUILTINS, file)
 
     def test_no_modules_import_from_each_other(self):
         known = {}
