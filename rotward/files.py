@@ -4,8 +4,8 @@ from rotward.access import ask_all, ask_vote, ask_word, mend, write_same, write_
 from rotward.changes import problem_of_file
 from rotward.codes import write_image
 from rotward.disks import is_number
-from rotward.errors import (AlreadyFormatted, DamagedData, DisksFull, FilesClosed, FilesLost, FilesOpen,
-                            InvalidArgument, NotFormatted, PowerOff, Refused)
+from rotward.errors import AlreadyFormatted, DamagedData, DisksFull, FilesClosed, FilesLost, FilesOpen
+from rotward.errors import InvalidArgument, NotFormatted, PowerOff, Refused
 from rotward.log import Log, area_size, area_start, log_block, read_tail, region_start, stripe_count
 from rotward.states import Plan, State, lengths_of, sorted_things
 from rotward.words import SECTOR, accepted, make_word
@@ -83,6 +83,7 @@ class Files:
             raise DisksFull("the image of the files does not fit into an area")
         for stripe, block in plan.writes(found):
             self._write_stripe(stripe, block)
+        # In the same area only the group is new, and in the other one all of it.
         write_log(self._disks, log, len(self._log.sectors) if log.area == self._log.area else 0)
         self._disks.sync()
         write_tails(self._disks, 0, log.tail())

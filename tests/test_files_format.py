@@ -100,10 +100,12 @@ class TestPower(FilesCase):
     def test_writes_to_disks_that_are_away_count_among_the_operations(self):
         self.disks.away(0)
         self.disks.away(3)
-        self.disks.fail_after(20)
-        self.assertEqual(outcome(Files, self.disks, True), ("PowerOff",))
-        self.assertEqual(self.disks.take(), FORMATTING[:20])
-        self.disks.power([])
+        for many in range(21):
+            self.disks.fail_after(many)
+            self.assertEqual(outcome(Files, self.disks, True), ("PowerOff",))
+            self.assertEqual(self.disks.take(), FORMATTING[:many])
+            self.assertEqual((self.disks.formatted, self.disks.in_use), (False, False))
+            self.disks.power([[True] * many] * 6)
         self.disks.fail_after(21)
         self.assertEqual(outcome(Files, self.disks, True)[0], "done")
         self.assertIs(self.disks.is_on(), True)
